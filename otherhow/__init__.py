@@ -1,0 +1,1 @@
+"""Otherhow: what experiments settle, and what they leave open."""
