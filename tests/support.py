@@ -1,0 +1,126 @@
+"""What several tests need: houses, and oracles that do their work in other ways than the program."""
+
+import itertools
+
+from otherhow.errors import BadText
+from otherhow.houses import House
+
+PAIR = "house variable x says no yes end variable y says no yes hears x end end"
+
+
+def house_of(*variables):
+    """A house of variables `(name, words, heard names)`, each written as one string with spaces."""
+    names = [name for name, _, _ in variables]
+    words = [said.split() for _, said, _ in variables]
+    heard = [[names.index(other) for other in others.split()] for _, _, others in variables]
+    return House(names, words, heard)
+
+
+def sample_houses():
+    """Houses of 1 to 5 variables; variables hear none, one and two others of 2 and 3 words."""
+    return [
+        house_of(("x", "no yes", "")),
+        house_of(("x", "low mid high", "")),
+        house_of(("x", "no yes", ""), ("y", "no yes", "x")),
+        house_of(("x", "low mid high", ""), ("y", "no yes", "x")),
+        house_of(("x", "no yes", ""), ("y", "low mid high", "x")),
+        house_of(("x", "low mid high", ""), ("y", "low mid high", "x")),
+        house_of(("x", "low mid high", ""), ("y", "no yes", "")),
+        house_of(("x", "low mid high", ""), ("y", "no yes", ""), ("z", "a b", "x y")),
+        house_of(("x", "no yes", ""), ("y", "low mid high", ""), ("z", "a b", "x y")),
+        house_of(("x", "no yes", ""), ("y", "no yes", ""), ("z", "a b c", "x y")),
+        house_of(("x", "no yes", ""), ("y", "no yes", "x"), ("z", "no yes", "y")),
+        house_of(("x", "no yes", ""), ("y", "no yes", "x"), ("z", "no yes", "x y")),
+        house_of(("a", "b c", ""), ("b", "a c", "a"), ("c", "a b", "a"), ("d", "a d", "b c")),
+        house_of(("a", "p q", ""), ("b", "p q", ""), ("c", "p q", ""), ("d", "p q", "b"), ("e", "q p", "d")),
+    ]
+
+
+def rows(house, variables):
+    """The rows of words of variables, the first one's word going slowest."""
+    return list(itertools.product(*[range(len(house.words[variable])) for variable in variables]))
+
+
+def ways(house):
+    """All ways in order, as itertools counts them."""
+    parts = []
+    for variable, said in enumerate(house.words):
+        answers = itertools.product(range(len(said)), repeat=len(rows(house, house.heard[variable])))
+        parts.append([list(words) for words in answers])
+    return [list(way) for way in itertools.product(*parts)]
+
+
+def world(house, way, setting):
+    """The words of all variables in the world of a setting, found by trying all rows of words."""
+    answers = [dict(zip(rows(house, heard), said)) for heard, said in zip(house.heard, way)]
+    for said in rows(house, range(len(house.names))):
+        if all(said[variable] == word for variable, word in setting) and all(
+                said[variable] == answers[variable][tuple(said[other] for other in house.heard[variable])]
+                for variable in range(len(house.names)) if variable not in dict(setting)):
+            return list(said)
+    raise AssertionError("no row of words is a world")
+
+
+def settings(house):
+    """All settings of a house."""
+    found = [[]]
+    for variable, said in enumerate(house.words):
+        found = [setting + more for setting in found for more in [[]] + [[(variable, k)] for k in range(len(said))]]
+    return found
+
+
+def lists_in(value):
+    """All lists in a value, at any depth."""
+    found = [value] if isinstance(value, list) else []
+    if isinstance(value, (list, tuple)):
+        for part in value:
+            found.extend(lists_in(part))
+    return found
+
+
+def share_lists(one, other):
+    """Whether some list is in both values, at any depth."""
+    mine = lists_in(one)
+    return any(part is mine_part for part in lists_in(other) for mine_part in mine)
+
+
+def has_no_list_twice(value):
+    """Whether the lists in a value are all different objects."""
+    found = lists_in(value)
+    return len({id(part) for part in found}) == len(found)
+
+
+def wrong_at(function, *arguments):
+    """The `at` of the BadText that a call raises."""
+    try:
+        result = function(*arguments)
+    except BadText as error:
+        if type(error) is not BadText or type(error.at) is not int:
+            raise AssertionError("the error is not as it must be")
+        return error.at
+    raise AssertionError(f"{arguments[-1]!r} was read as {result!r}")
+
+
+def spaced(text):
+    """The text with other numbers of spaces between its words and at its ends."""
+    return "   " + text.replace(" ", "  ", 3).replace("s ", "s    ") + "  "
+
+
+def first_wrong(texts, words):
+    """The index of the first word that none of the texts, lists of words, has after the words before it."""
+    for at in range(len(words)):
+        if not any(text[:at + 1] == words[:at + 1] for text in texts):
+            return at
+    return len(words)
+
+
+def one_word_off(words, vocabulary):
+    """All lists of words that differ from `words` by one word that is changed, put in or left out, or end early."""
+    found = []
+    for at in range(len(words) + 1):
+        found.append(words[:at])
+        found.append(words[:at] + words[at + 1:])
+        for word in vocabulary:
+            found.append(words[:at] + [word] + words[at:])
+            found.append(words[:at] + [word] + words[at + 1:])
+    return found
