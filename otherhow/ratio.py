@@ -2,6 +2,9 @@
 
 from math import gcd
 
+ZERO = (0, 1)
+ONE = (1, 1)
+
 
 def ratio(p, q):
     """Return the fraction p by q; q is not 0."""
@@ -48,7 +51,7 @@ def at_most(a, b):
 
 def added(numbers):
     """Return the sum of a list; 0 of an empty one."""
-    total = (0, 1)
+    total = ZERO
     for number in numbers:
         total = add(total, number)
     return total
@@ -57,3 +60,16 @@ def added(numbers):
 def dot(a, b):
     """Return the sum of the products of two lists of the same length."""
     return added([mul(one, other) for one, other in zip(a, b)])
+
+
+def is_fraction(value):
+    """Return whether a value of any kind is a fraction."""
+    if not isinstance(value, tuple) or len(value) != 2:
+        return False
+    p, q = value
+    return is_whole(p) and is_whole(q) and q >= 1 and gcd(p, q) == 1
+
+
+def is_whole(value):
+    """Return whether a value of any kind is an integer, which True and False are not."""
+    return isinstance(value, int) and not isinstance(value, bool)

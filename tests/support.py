@@ -124,3 +124,24 @@ def one_word_off(words, vocabulary):
             found.append(words[:at] + [word] + words[at:])
             found.append(words[:at] + [word] + words[at + 1:])
     return found
+
+
+def even_mix(data):
+    """The mix in which all ways have the same chance."""
+    return [(1, len(data.ways))] * len(data.ways)
+
+
+def pure_mix(data, at):
+    """The mix in which one way has the chance 1."""
+    return [(1, 1) if k == at else (0, 1) for k in range(len(data.ways))]
+
+
+def told(number):
+    """A Fraction as a tuple."""
+    return (number.numerator, number.denominator)
+
+
+def row_number(house, setting, seen, way):
+    """The index of the row that holds of the way, looked up in the list of all rows."""
+    said = world(house, way, setting)
+    return rows(house, seen).index(tuple(said[variable] for variable in seen))

@@ -173,7 +173,7 @@ class WrongTextTest(unittest.TestCase):
         for text in [PAIR, FIVE]:
             words = text.split()
             for at in range(len(words) + 1):
-                for word in ("Never", "if", "and", "ignores", "rises", "falls", "with", "never", "when", "3", "-", "x_"):
+                for word in NOT_NAMES[5:] + ["Never", "3", "-", "x_"]:
                     wrong = " ".join(words[:at] + [word] + words[at + 1:])
                     self.assertEqual(wrong_at(parse_house, wrong), at, wrong)
 

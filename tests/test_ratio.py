@@ -4,7 +4,7 @@ from fractions import Fraction
 from math import gcd
 
 from otherhow import ratio as module
-from otherhow.ratio import add, added, at_most, div, dot, less, mul, neg, ratio, sub
+from otherhow.ratio import ONE, ZERO, add, added, at_most, div, dot, is_fraction, less, mul, neg, ratio, sub
 
 BIG = 10 ** 9999 + 7
 HUGE = 7 * 10 ** 9999 + 9
@@ -205,6 +205,25 @@ class SumTest(FractionCase):
         dot(one, other)
         self.assertEqual(one, [(1, 2), (1, 3)])
         self.assertEqual(other, [(3, 1), (-1, 1)])
+
+
+class FormTest(unittest.TestCase):
+    def test_fractions(self):
+        for a in SAMPLES + [ZERO, ONE]:
+            self.assertIs(is_fraction(a), True)
+
+    def test_pairs_that_are_none(self):
+        for a in [(0, 2), (2, 4), (1, 0), (0, 0), (0, -1), (1, -2), (-1, -1), (3, 3)]:
+            self.assertIs(is_fraction(a), False, a)
+
+    def test_values_of_other_kinds(self):
+        for a in [
+                None, 0, 1, "0", "12", 0.5, (), (1,), (1, 2, 3), [0, 1], (None, 1), (1, None), ("1", 2), (1, "2"),
+                (1.0, 1), (0, 1.0), (True, 1), (0, True), ((0, 1), (0, 1)), {0: 0, 1: 1}]:
+            self.assertIs(is_fraction(a), False, a)
+
+    def test_the_constants(self):
+        self.assertEqual((ZERO, ONE), ((0, 1), (1, 1)))
 
 
 class InterfaceTest(unittest.TestCase):

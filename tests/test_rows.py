@@ -5,7 +5,8 @@ import unittest
 from otherhow import rows as module
 from otherhow.rows import place, row_at, size
 
-BOUNDS = [[], [1], [2], [5], [1, 1], [2, 3], [3, 2], [1, 4], [4, 1], [2, 1, 3], [3, 3, 3], [2, 2, 2, 2, 2], [2, 3, 4, 5]]
+BOUNDS = [
+    [], [1], [2], [5], [1, 1], [2, 3], [3, 2], [1, 4], [4, 1], [2, 1, 3], [3, 3, 3], [2, 2, 2, 2, 2], [2, 3, 4, 5]]
 
 
 def all_rows(bounds):
