@@ -91,8 +91,8 @@ class IsTableTest(unittest.TestCase):
     def test_below_0_above_1_and_low_above_high(self):
         for wrong in [
                 ((-1, 2), HALF), ((-1, 10 ** 30), ZERO), ((-1, 2), (-1, 3)), (HALF, (3, 2)),
-                (ONE, (10 ** 30 + 1, 10 ** 30)), ((3, 2), (3, 2)), ((2, 1), (3, 1)), (HALF, (1, 3)), (ONE, ZERO), (ONE, (10 ** 30 - 1, 10 ** 30)),
-                ((1, 10 ** 30), ZERO)]:
+                (ONE, (10 ** 30 + 1, 10 ** 30)), ((3, 2), (3, 2)), ((2, 1), (3, 1)), (HALF, (1, 3)), (ONE, ZERO),
+                (ONE, (10 ** 30 - 1, 10 ** 30)), ((1, 10 ** 30), ZERO)]:
             self.assertIs(self.of([wrong, FREE]), False, wrong)
             self.assertIs(self.of([FREE, wrong]), False, wrong)
             self.assertIs(self.of([wrong, wrong]), False, wrong)
