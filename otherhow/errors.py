@@ -9,7 +9,7 @@ class BadText(BeenError):
     """A text is not one of its kind; `at` is the index of the first wrong word."""
 
     def __init__(self, at):
-        BeenError.__init__(self, f"the text is wrong from word {at} on")
+        super().__init__(f"the text is wrong from word {at} on")
         self.at = at
 
 

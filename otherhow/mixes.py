@@ -1,7 +1,7 @@
 """Mixes: how large a part of the population answers in each way (points 14 and 17)."""
 
 from otherhow.events import question_value
-from otherhow.ratio import ONE, ZERO, add, added, at_most, dot, is_fraction
+from otherhow.ratio import ONE, ZERO, add, added, at_most, div, dot, is_fraction
 from otherhow.rows import size
 from otherhow.tables import row_bounds, row_of
 
@@ -39,3 +39,9 @@ def lies_within(data, table, mix):
 def value_in(data, question, mix):
     """Return the question's value in the mix."""
     return dot([question_value(data.house, question, way) for way in data.ways], mix)
+
+
+def as_mix(parts):
+    """Return the mix whose chances are to each other as the parts are: from 0 on, and not all 0."""
+    total = added(parts)
+    return [div(part, total) for part in parts]

@@ -10,8 +10,8 @@ NOT_NAMES = (
 
 
 def is_name(word):
-    """Return whether a string is a name."""
-    if word == "" or len(word) > 12 or word in NOT_NAMES:
+    """Return whether a value of any kind is a name."""
+    if not isinstance(word, str) or word == "" or len(word) > 12 or word in NOT_NAMES:
         return False
     return word[0] in LETTERS and all(sign in LETTERS + DIGITS for sign in word)
 

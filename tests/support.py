@@ -1,6 +1,7 @@
 """What several tests need: houses, and oracles that do their work in other ways than the program."""
 
 import itertools
+from fractions import Fraction
 
 from otherhow.errors import BadText
 from otherhow.houses import House
@@ -145,3 +146,88 @@ def row_number(house, setting, seen, way):
     """The index of the row that holds of the way, looked up in the list of all rows."""
     said = world(house, way, setting)
     return rows(house, seen).index(tuple(said[variable] for variable in seen))
+
+
+def exact(number):
+    """A tuple as a Fraction, after a look at its form (point 3)."""
+    if type(number) is not tuple or [type(part) for part in number] != [int, int]:
+        raise AssertionError(f"{number!r} is no fraction")
+    found = Fraction(*number)
+    if told(found) != number:
+        raise AssertionError(f"{number!r} is not in lowest terms")
+    return found
+
+
+def worth(house, question, way):
+    """The question's value for a way, as a Fraction."""
+    return sum([Fraction(*factor) for factor, event in question if all(
+        world(house, way, setting)[variable] == word for variable, word, setting in event)], Fraction(0))
+
+
+def random_mix(many, numbers):
+    """A mix for as many ways, in which many have the chance 0."""
+    parts = [numbers.choice([0, 0, 1, 2, 3, 7]) for _ in range(many)]
+    parts[numbers.randrange(many)] += 1
+    return [told(Fraction(part, sum(parts))) for part in parts]
+
+
+def random_experiment(house, numbers, most=2):
+    """An experiment in which 1 to `most` variables are seen."""
+    many = len(house.names)
+    seen = sorted(numbers.sample(range(many), numbers.randint(1, min(most, many))))
+    return (numbers.choice(settings(house)), seen)
+
+
+def table_near(data, mix, experiment, rooms, numbers):
+    """A table that the mix agrees with; the bounds lie as far from its chances as one of the rooms."""
+    setting, seen = experiment
+    chances = [Fraction(0)] * len(rows(data.house, seen))
+    for way, chance in zip(data.ways, mix):
+        chances[row_number(data.house, setting, seen, way)] += Fraction(*chance)
+    bounds = []
+    for chance in chances:
+        low = max(Fraction(0), chance - numbers.choice(rooms))
+        high = min(Fraction(1), chance + numbers.choice(rooms))
+        bounds.append((told(low), told(high)))
+    return (setting, seen, bounds)
+
+
+def random_event(house, numbers, most=2):
+    """An event of at most so many conditions, about one world or several."""
+    event = []
+    for _ in range(numbers.randint(0, most)):
+        variable = numbers.randrange(len(house.names))
+        event.append((variable, numbers.randrange(len(house.words[variable])), numbers.choice(settings(house))))
+    return event
+
+
+def random_question(house, numbers, terms=3):
+    """A question of at most so many terms, with factors of either sign."""
+    return [(told(Fraction(numbers.randint(-6, 6), numbers.randint(1, 4))), random_event(house, numbers))
+            for _ in range(numbers.randint(0, terms))]
+
+
+def random_sentences(house, numbers, most=2):
+    """At most so many sentences, of any kinds, on what hears something."""
+    hearing = [variable for variable in range(len(house.names)) if house.heard[variable]]
+    sentences = []
+    for _ in range(numbers.randint(0, most) if hearing else 0):
+        variable = numbers.choice(hearing)
+        heard = numbers.choice(house.heard[variable])
+        kind = numbers.choice(["ignores", "rises", "falls", "never"])
+        if kind == "never":
+            word, other = numbers.randrange(len(house.words[variable])), numbers.randrange(len(house.words[heard]))
+            sentences.append((kind, variable, word, heard, other))
+        else:
+            sentences.append((kind, variable, heard))
+    return sentences
+
+
+def negated(question):
+    """The question with its factors negated."""
+    return [((-p, q), event) for (p, q), event in question]
+
+
+def minus(number):
+    """The negative of a fraction."""
+    return (-number[0], number[1])

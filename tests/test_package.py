@@ -17,7 +17,7 @@ LIBRARY = {
 FORBIDDEN = (ast.Import, ast.Global, ast.AsyncFunctionDef, ast.Await, ast.Div, ast.MatMult)
 CALLED_NOWHERE = {
     "open", "input", "print", "eval", "exec", "compile", "globals", "locals", "vars", "id", "hash", "float", "round",
-    "complex", "type", "super", "filter", "object", "memoryview", "bytearray", "slice", "chr", "bin", "hex"}
+    "complex", "type", "filter", "object", "memoryview", "bytearray", "slice", "chr", "bin", "hex"}
 
 
 def files():
